@@ -371,16 +371,21 @@ func TestPromise2ParseExprInvalid(t *testing.T) {
 	}
 }
 
+// listsUpTo has all lists of some items up to a length, the empty one included.
+func listsUpTo[T any](items []T, length int) [][]T {
+	lists := [][]T{nil}
+	for begin := 0; len(lists[begin]) < length; begin++ {
+		for _, item := range items {
+			lists = append(lists, append(slices.Clone(lists[begin]), item))
+		}
+	}
+	return lists
+}
+
 func TestPromise2ExprRoundTrip(t *testing.T) {
 	// Each list of up to four of these tokens either is no expression or comes back from its words.
 	toks := []impl.Tok{oneTok, varTok, addTok, callTok("f", 0), callTok("f", 1), callTok("g", 3), {Kind: 8}}
-	lists := [][]impl.Tok{nil}
-	for begin := 0; len(lists[begin]) < 4; begin++ {
-		for _, tok := range toks {
-			lists = append(lists, append(slices.Clone(lists[begin]), tok))
-		}
-	}
-	for _, list := range lists {
+	for _, list := range listsUpTo(toks, 4) {
 		text := impl.FormatExpr(list)
 		if (text != "") != impl.ExprOk(list) {
 			t.Fatalf("FormatExpr(%v) = %q", list, text)
