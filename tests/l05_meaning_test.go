@@ -430,8 +430,10 @@ func TestPromise5DepthWithoutVisits(t *testing.T) {
 		"1 1>4 1>5 1>5>4 1>5>5 1>5>5>4 1>5>5>5 1>5>5>5>4 1>5>5>5>5 1>5>5>5>5>4 1>5>5>5>5>5 1>5>5>5>5>5>4 1>5>5>5>5>5>7 1>5>5>5>5>5>8")
 }
 
-func TestPromise5InvalidPrograms(t *testing.T) {
-	limits := []int{math.MinInt, -1, 0, 1, 60, largestLimit, largestLimit + 1, math.MaxInt}
+// invalidPrograms are lists of lines that ProgramOk rejects.
+func invalidPrograms(t *testing.T) [][]impl.Line {
+	t.Helper()
+	list := [][]impl.Line{{{}}}
 	for _, text := range []string{
 		"", "end", "out 1", "return 1", "fun f;out 1;end", "fun main x;out x;end", "fun main", "fun main;out 1", "fun main;if 1;end", "fun main;end;end",
 		"fun main;out 1;end;out 2", "fun main;fun f;end;end", "fun main;end;fun main;end", "fun main;else;end", "fun main;if 1;else;else;end;end",
@@ -439,21 +441,25 @@ func TestPromise5InvalidPrograms(t *testing.T) {
 		"fun main;if 0;out f/0;end;end", "fun main;return 1;out x;end", "fun main;if 1;if 1;if 1;if 1;if 1;end;end;end;end;end;end",
 		"fun main" + strings.Repeat(";out 1", impl.MaxLines-1) + ";end",
 	} {
-		for _, limit := range limits {
-			wantBadRun(t, linesOf(t, text), limit)
-		}
+		list = append(list, linesOf(t, text))
 	}
 	good := linesOf(t, "fun main;set x 1;out x;end")
 	for _, bad := range invalidLines() {
 		for at := range good {
 			replaced := slices.Clone(good)
 			replaced[at] = bad
-			wantBadRun(t, replaced, 60)
+			list = append(list, replaced)
 		}
 	}
-	wantBadRun(t, nil, 1)
-	wantBadRun(t, []impl.Line{{}}, 1)
-	wantBadRun(t, slices.Repeat(good, 2000), 1)
+	return append(list, slices.Repeat(good, 2000))
+}
+
+func TestPromise5InvalidPrograms(t *testing.T) {
+	for _, p := range invalidPrograms(t) {
+		for _, limit := range []int{math.MinInt, -1, 0, 1, 60, largestLimit, largestLimit + 1, math.MaxInt} {
+			wantBadRun(t, p, limit)
+		}
+	}
 }
 
 func TestPromise5AllShortPrograms(t *testing.T) {
