@@ -507,7 +507,7 @@ func madeProgram(seed int64) string {
 	return strings.Join(m.lines, ";")
 }
 
-func functionName(f int) string { return strings.Fields("main f g h k")[f] }
+func functionName(f int) string { return strings.Fields("main f g h k l")[f] }
 
 func (m *programMaker) block(depth int, count int) {
 	for range count {
